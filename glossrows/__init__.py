@@ -1,0 +1,1 @@
+"""Glossed texts: read strictly, said in columns, and what is known of their pieces."""

@@ -1,0 +1,102 @@
+"""Calls written as lists of whole numbers, and answers taken apart, for the tests."""
+
+from glossrows.desk import answers
+
+
+def call(number, numbers=()):
+    return [number, len(numbers), *numbers, 0]
+
+
+def read(text):
+    return call(1, text.encode("latin-1"))
+
+
+def item(number):
+    return call(3, [number])
+
+
+def piece(number):
+    return call(5, [number])
+
+
+BEGINS = call(0)
+SAID = call(2)
+KNOWN = call(4)
+
+
+def joined(calls):
+    return [number for one in calls for number in one]
+
+
+def parted(told):
+    """The answers of several calls, a list each; each one's count has to fit."""
+    parts = []
+    at = 0
+    while at < len(told):
+        end = at + 1 + told[at]
+        if told[at] < 1 or end > len(told):
+            raise AssertionError(f"a count doesn't fit at {at}: {told}")
+        parts.append(told[at + 1:end])
+        at = end
+    return parts
+
+
+def ask(*calls):
+    parts = parted(answers(joined(calls)))
+    if len(parts) != len(calls):
+        raise AssertionError(f"{len(calls)} calls, {len(parts)} answers")
+    return parts
+
+
+def counted(text):
+    """How a row of bytes is answered: how many, then they."""
+    signs = list(text.encode("latin-1"))
+    return [len(signs), *signs]
+
+
+def said_of(text):
+    """The text in columns, for a text that is read without a fault."""
+    first, second = ask(read(text), SAID)
+    if first[0] < 0:
+        raise AssertionError(f"{text!r} is refused: {first}")
+    if second[0] != len(second) - 1:
+        raise AssertionError(f"said tells a wrong count: {second}")
+    return bytes(second[1:]).decode("latin-1")
+
+
+def pieces_of(text):
+    """Of each known piece: how often it comes, its seam, form and gloss."""
+    amount = ask(read(text), KNOWN)[1][0]
+    found = []
+    for number in range(amount):
+        answer = ask(read(text), piece(number))[1]
+        size = answer[2]
+        form = bytes(answer[3:3 + size]).decode("latin-1")
+        rest = answer[3 + size:]
+        if rest[0] != len(rest) - 1:
+            raise AssertionError(f"piece tells a wrong count: {answer}")
+        found.append((answer[0], answer[1], form, bytes(rest[1:]).decode("latin-1")))
+    return found
+
+
+ONE = "a\na\nx\n"
+
+
+def many_items(amount):
+    return "\n".join([ONE] * amount)
+
+
+def many_words(amount):
+    words = " ".join(["a"] * amount)
+    return f"{words}\n{words}\n{words}\n"
+
+
+def many_pieces(amount):
+    row = "-".join(["a"] * amount)
+    word = "a" * amount
+    return f"{word}\n{row}\n{row}\n"
+
+
+def sized(amount):
+    """A text without a fault that has so many bytes, 7 at least."""
+    return ONE + "'" + "f" * (amount - 8) + "\n"
