@@ -1,1 +1,1 @@
-"""Glossed texts: read strictly, said in columns, and what is known of their pieces."""
+"""Glossed texts: read strictly, said in columns, what is known of their pieces, and what stands where."""

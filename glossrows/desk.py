@@ -1,14 +1,18 @@
 """The calls about one text, and their answers as whole numbers."""
 
 from glossrows.columns import said_text
-from glossrows.known import Text
-from glossrows.reading import Fault, entries_of
+from glossrows.known import Text, unlike_forms
+from glossrows.parting import Parting, amount_of_rows, first_rows
+from glossrows.reading import FORM, GLOSS, SEAM, Fault, entries_of
+from glossrows.search import BadSteps, places_of, steps_of
 
-TOO_LARGE = -1
+OUT_OF_BOUNDS = -1
 NOT_THERE = -2
 FAULTY = -3
 
 MOST_BYTES = 6000
+MOST_ROWS = 20
+MOST_WORD_BYTES = 40
 
 
 class Desk:
@@ -23,7 +27,7 @@ def begins(desk, numbers):
 
 def read(desk, numbers):
     if len(numbers) > MOST_BYTES:
-        return [TOO_LARGE]
+        return [OUT_OF_BOUNDS]
     try:
         entries = entries_of(numbers)
     except Fault as fault:
@@ -52,18 +56,53 @@ def piece(desk, numbers):
     if number >= len(desk.text.known_pieces):
         return [NOT_THERE]
     found = desk.text.known_pieces[number]
-    seam = found[0]
-    form = list(found[1])
-    gloss = list(found[2])
-    return [desk.text.times[found], seam] + counted(form) + counted(gloss)
+    return [desk.text.times[found], found[SEAM]] + counted(list(found[FORM])) + counted(list(found[GLOSS]))
+
+
+def glosses(desk, numbers):
+    return counted(desk.text.by_form.get(tuple(numbers), []))
+
+
+def forms(desk, numbers):
+    return counted(desk.text.by_gloss.get(tuple(numbers), []))
+
+
+def unlike(desk, numbers):
+    unlike_ones = unlike_forms(desk.text)
+    return [len(unlike_ones)] + joined([counted(list(form)) for form in unlike_ones])
+
+
+def apart(desk, numbers):
+    most = numbers[0]
+    word = numbers[1:]
+    if most > MOST_ROWS or len(word) > MOST_WORD_BYTES:
+        return [OUT_OF_BOUNDS]
+    parting = Parting(desk.text, word)
+    return [amount_of_rows(parting)] + joined([counted(row) for row in first_rows(parting, most)])
+
+
+def find(desk, numbers):
+    try:
+        steps = steps_of(numbers)
+    except BadSteps:
+        return [OUT_OF_BOUNDS]
+    places = places_of(desk.text, steps)
+    return [len(places)] + joined(places)
 
 
 def counted(numbers):
     return [len(numbers)] + numbers
 
 
+def joined(rows):
+    numbers = []
+    for row in rows:
+        numbers.extend(row)
+    return numbers
+
+
 # A call's number is its place here.
-CALLS = (begins, read, said, item, known, piece)
+CALLS = (begins, read, said, item, known, piece, glosses, forms, unlike, apart, find)
 
 
 def answers(calls):

@@ -17,6 +17,11 @@ MOST_PIECES = 8
 # A word has no seam ahead of its first piece.
 NO_SEAM = 0
 
+# Where a piece keeps what it has.
+SEAM = 0
+FORM = 1
+GLOSS = 2
+
 
 class Fault(Exception):
     def __init__(self, kind, place):

@@ -3,6 +3,7 @@
 LINE_END = 10
 BLANK = 32
 QUOTE = 39
+DOT = 46
 SEAMS = (45, 61, 126)
 
 
@@ -45,3 +46,8 @@ def seams_of(row):
 
 def without_seams(row):
     return [sign for sign in row.signs if sign not in SEAMS]
+
+
+# A gloss is a tuple, and so are its parts.
+def dotted_parts(gloss):
+    return [part.signs for part in cut_at(Row(0, gloss), (DOT,))]

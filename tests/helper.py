@@ -1,6 +1,11 @@
 """Calls written as lists of whole numbers, and answers taken apart, for the tests."""
 
+import contextlib
+import signal
+
 from glossrows.desk import answers
+
+LARGEST = 4294967295
 
 
 def call(number, numbers=()):
@@ -19,9 +24,31 @@ def piece(number):
     return call(5, [number])
 
 
+def glosses(form):
+    return call(6, form.encode("latin-1"))
+
+
+def forms(gloss):
+    return call(7, gloss.encode("latin-1"))
+
+
+def apart(most, word):
+    return call(9, [most, *word.encode("latin-1")])
+
+
+def step(gap, *wanted):
+    """A step as it is told: its gap, how many things are wanted, of each its kind and its bytes, counted."""
+    return [gap, len(wanted), *[number for kind, text in wanted for number in [kind, *counted(text)]]]
+
+
+def find(*steps):
+    return call(10, [len(steps), *joined(steps)])
+
+
 BEGINS = call(0)
 SAID = call(2)
 KNOWN = call(4)
+UNLIKE = call(8)
 
 
 def joined(calls):
@@ -46,6 +73,33 @@ def ask(*calls):
     if len(parts) != len(calls):
         raise AssertionError(f"{len(calls)} calls, {len(parts)} answers")
     return parts
+
+
+@contextlib.contextmanager
+def promptly():
+    """Fails when what is done within takes so long that every way must have been gone."""
+    def late(*told):
+        raise AssertionError("not answered promptly")
+
+    before = signal.signal(signal.SIGALRM, late)
+    signal.alarm(20)
+    try:
+        yield
+    finally:
+        signal.alarm(0)
+        signal.signal(signal.SIGALRM, before)
+
+
+def rows_in(answer):
+    """How many rows apart tells, and the rows, whose counts have to fit."""
+    return answer[0], parted(answer[1:])
+
+
+def places_in(answer):
+    """The places that find tells: item, word and end of each."""
+    if len(answer) != 1 + 3 * answer[0]:
+        raise AssertionError(f"find tells a wrong count: {answer}")
+    return [tuple(answer[at:at + 3]) for at in range(1, len(answer), 3)]
 
 
 def counted(text):

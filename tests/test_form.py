@@ -72,6 +72,46 @@ class Form(unittest.TestCase):
             for node in nodes(path, ast.FunctionDef, ast.ClassDef):
                 self.assertEqual(node.decorator_list, [], (path, node.lineno))
 
+    def test_the_top_of_a_module(self):
+        plain = (ast.Constant, ast.Name, ast.List, ast.Tuple, ast.Dict, ast.UnaryOp, ast.USub, ast.Load)
+        for path in modules():
+            top = ast.parse(path.read_text()).body
+            own = [node.name for node in top if isinstance(node, ast.FunctionDef)]
+            names = [node.targets[0].id for node in top if isinstance(node, ast.Assign)]
+            self.assertEqual(len(set(names + own)), len(names + own), path)
+            for node in [node for node in top if isinstance(node, ast.Assign)]:
+                for part in ast.walk(node.value):
+                    self.assertIsInstance(part, plain, (path, node.lineno))
+                    if isinstance(part, ast.Name):
+                        self.assertIn(part.id, own, (path, node.lineno))
+
+    def test_keywords(self):
+        allowed = {"sorted": ["key", "reverse"], "min": ["key", "default"], "max": ["key", "default"],
+                   "sum": ["start"], "enumerate": ["start"], "zip": ["strict"]}
+        for path in modules():
+            for node in nodes(path, ast.Call):
+                for keyword in node.keywords:
+                    self.assertIsInstance(node.func, ast.Name, (path, node.lineno))
+                    self.assertIn(keyword.arg, allowed.get(node.func.id, []), (path, node.lineno))
+
+    def test_one_for_in_a_comprehension(self):
+        for path in modules():
+            for node in nodes(path, ast.ListComp):
+                self.assertEqual(len(node.generators), 1, (path, node.lineno))
+                self.assertLessEqual(len(node.generators[0].ifs), 1, (path, node.lineno))
+
+    def test_what_is_walked_at_once(self):
+        """`range`, `zip` and their like stand behind an `in` or as the first thing in a call that walks them."""
+        walkers = ["list", "tuple", "dict", "sorted", "sum", "any", "all", "enumerate", "zip", "min", "max"]
+        for path in modules():
+            walked = [node.iter for node in nodes(path, ast.For, ast.comprehension)]
+            walked += [node.args[0] for node in nodes(path, ast.Call)
+                       if isinstance(node.func, ast.Name) and node.func.id in walkers and node.args]
+            for node in nodes(path, ast.Call):
+                if isinstance(node.func, ast.Name) and node.func.id in ("range", "zip", "enumerate", "reversed"):
+                    places = [(one.lineno, one.col_offset) for one in walked]
+                    self.assertIn((node.lineno, node.col_offset), places, (path, node.lineno))
+
     def test_imports(self):
         for path in modules():
             self.assertEqual(nodes(path, ast.Import), [], path)

@@ -1,8 +1,6 @@
 import unittest
 
-from helper import KNOWN, ONE, ask, call, counted, item, many_items, many_words, piece, pieces_of, read
-
-LARGEST = 4294967295
+from helper import KNOWN, LARGEST, ONE, ask, call, counted, item, many_items, many_words, piece, pieces_of, read
 
 
 class Items(unittest.TestCase):
